@@ -49,6 +49,35 @@ func sampleInts() []int {
 	return l
 }
 
+// textForm is a pair of functions between values and their texts.
+type textForm[T any] struct {
+	format func(x T) string
+	parse  func(s string) (T, bool)
+	same   func(x, y T) bool
+}
+
+// check reports x and its text if one of the two does not give the other.
+func (f textForm[T]) check(t *testing.T, x T, text string) {
+	t.Helper()
+	if got := f.format(x); got != text {
+		t.Errorf("the text of %v is %q, want %q", x, got, text)
+	}
+	if got, ok := f.parse(text); !ok || !f.same(got, x) {
+		t.Errorf("%q is read as %v, %v, want %v, true", text, got, ok, x)
+	}
+}
+
+// checkRejects reports the texts that are read as a value, or of which something is left beside a false.
+func (f textForm[T]) checkRejects(t *testing.T, texts []string) {
+	t.Helper()
+	var zero T
+	for _, s := range texts {
+		if x, ok := f.parse(s); ok || !f.same(x, zero) {
+			t.Errorf("%q is read as %v, %v, want the zero value, false", s, x, ok)
+		}
+	}
+}
+
 // P1, P18.
 func TestFormatInt(t *testing.T) {
 	cases := map[int]string{

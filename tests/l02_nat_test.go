@@ -440,6 +440,10 @@ func TestNatFunctionsRejectInvalidArguments(t *testing.T) {
 	}
 }
 
+func natText() textForm[[]int] {
+	return textForm[[]int]{impl.FormatNat, impl.ParseNat, func(a, b []int) bool { return slices.Equal(a, b) }}
+}
+
 // P1, P18.
 func TestFormatNatAndParseNat(t *testing.T) {
 	texts := map[string][]int{
@@ -458,21 +462,10 @@ func TestFormatNatAndParseNat(t *testing.T) {
 		"1" + strings.Repeat("0", 9*7-1): append(rowOfEqual(0, 6), 100000000),
 	}
 	for s, a := range texts {
-		if got := impl.FormatNat(a); got != s {
-			t.Errorf("FormatNat(%v) = %q, want %q", a, got, s)
-		}
-		if got, ok := impl.ParseNat(s); !ok || !slices.Equal(got, a) {
-			t.Errorf("ParseNat(%q) = %v, %v, want %v, true", s, got, ok, a)
-		}
+		natText().check(t, a, s)
 	}
 	for _, a := range sampleNats() {
-		s := impl.FormatNat(a)
-		if s != valueOf(a).String() {
-			t.Errorf("FormatNat(%v) = %q", a, s)
-		}
-		if got, ok := impl.ParseNat(s); !ok || !slices.Equal(got, a) {
-			t.Errorf("ParseNat(%q) = %v, %v, want %v, true", s, got, ok, a)
-		}
+		natText().check(t, a, valueOf(a).String())
 	}
 }
 
@@ -501,11 +494,7 @@ func TestParseNatRejects(t *testing.T) {
 		"1-23456789", "1+23456789", "1-00000000", "1 23456789", "12345678-", "1-2345678900000000",
 		"\x00", "1\x00", "\xff", "1\xff", "\u0663", "\uff11", "1\uff11", "1é",
 	}
-	for _, s := range invalid {
-		if a, ok := impl.ParseNat(s); len(a) > 0 || ok {
-			t.Errorf("ParseNat(%q) = %v, %v, want nil, false", s, a, ok)
-		}
-	}
+	natText().checkRejects(t, invalid)
 }
 
 // P1, P18.

@@ -430,6 +430,10 @@ func TestBigIntFunctionsRejectInvalidArguments(t *testing.T) {
 	}
 }
 
+func bigIntText() textForm[impl.BigInt] {
+	return textForm[impl.BigInt]{impl.FormatBigInt, impl.ParseBigInt, sameBigInt}
+}
+
 // P1, P18.
 func TestFormatBigIntAndParseBigInt(t *testing.T) {
 	texts := map[string]impl.BigInt{
@@ -444,21 +448,10 @@ func TestFormatBigIntAndParseBigInt(t *testing.T) {
 		"-1" + strings.Repeat("0", 531): {Neg: true, Mag: powerOfBase(59)},
 	}
 	for s, x := range texts {
-		if got := impl.FormatBigInt(x); got != s {
-			t.Errorf("FormatBigInt(%v) = %q, want %q", x, got, s)
-		}
-		if got, ok := impl.ParseBigInt(s); !ok || !sameBigInt(got, x) {
-			t.Errorf("ParseBigInt(%q) = %v, %v, want %v, true", s, got, ok, x)
-		}
+		bigIntText().check(t, x, s)
 	}
 	for _, x := range sampleBigInts() {
-		s := impl.FormatBigInt(x)
-		if s != integerOf(x).String() {
-			t.Errorf("FormatBigInt(%v) = %q", x, s)
-		}
-		if got, ok := impl.ParseBigInt(s); !ok || !sameBigInt(got, x) {
-			t.Errorf("ParseBigInt(%q) = %v, %v, want %v, true", s, got, ok, x)
-		}
+		bigIntText().check(t, x, integerOf(x).String())
 	}
 }
 
@@ -472,11 +465,7 @@ func TestParseBigIntRejects(t *testing.T) {
 		" ", " -1", "-1 ", "-1\n", "\n-1", "-1_0", "-1.0", "-1e3", "-0x1", "-x", "x", "-12x", "1-23456789", "-1-23456789",
 		"\x00", "-\x00", "-1\x00", "\xff", "-\xff", "\u22121", "\u20101", "\uff0d1", "-\u0663", "-\uff11", "-1é",
 	}
-	for _, s := range invalid {
-		if x, ok := impl.ParseBigInt(s); !isZeroBigInt(x) || ok {
-			t.Errorf("ParseBigInt(%q) = %v, %v, want the zero value, false", s, x, ok)
-		}
-	}
+	bigIntText().checkRejects(t, invalid)
 }
 
 // P1, P18.

@@ -588,6 +588,10 @@ func TestRatTooLargeStaysTheZeroValue(t *testing.T) {
 	}
 }
 
+func ratText() textForm[impl.Rat] {
+	return textForm[impl.Rat]{impl.FormatRat, impl.ParseRat, sameRat}
+}
+
 // P1, P18.
 func TestFormatRatAndParseRat(t *testing.T) {
 	nines := strings.Repeat("9", 216)
@@ -608,21 +612,10 @@ func TestFormatRatAndParseRat(t *testing.T) {
 		"-1/1" + strings.Repeat("0", 207):   fractionOf(true, []int{1}, powerOfBase(23)),
 	}
 	for s, r := range texts {
-		if got := impl.FormatRat(r); got != s {
-			t.Errorf("FormatRat(%v) = %q, want %q", r, got, s)
-		}
-		if got, ok := impl.ParseRat(s); !ok || !sameRat(got, r) {
-			t.Errorf("ParseRat(%q) = %v, %v, want %v, true", s, got, ok, r)
-		}
+		ratText().check(t, r, s)
 	}
 	for _, r := range sampleRats() {
-		s := impl.FormatRat(r)
-		if s != quotientOf(r).RatString() {
-			t.Errorf("FormatRat(%v) = %q", r, s)
-		}
-		if got, ok := impl.ParseRat(s); !ok || !sameRat(got, r) {
-			t.Errorf("ParseRat(%q) = %v, %v, want %v, true", s, got, ok, r)
-		}
+		ratText().check(t, r, quotientOf(r).RatString())
 	}
 }
 
@@ -639,11 +632,7 @@ func TestParseRatRejects(t *testing.T) {
 		strings.Repeat("9", 540) + "/" + strings.Repeat("9", 539), "0/" + nines, "1/0" + nines[1:], "0" + nines[1:] + "/2",
 		strings.Repeat("9", 5000), strings.Repeat("1/", 300), strings.Repeat("/", 300),
 	}
-	for _, s := range invalid {
-		if r, ok := impl.ParseRat(s); !isZeroRat(r) || ok {
-			t.Errorf("ParseRat(%q) = %v, %v, want the zero value, false", s, r, ok)
-		}
-	}
+	ratText().checkRejects(t, invalid)
 }
 
 // P1, P18.
