@@ -726,6 +726,21 @@ func randomLinks(r *rand.Rand, nodes int, n int) []impl.Link {
 	return l
 }
 
+// randomPoints returns a position for every node, with small fractions.
+func randomPoints(r *rand.Rand) []impl.Point {
+	at := make([]impl.Point, 10)
+	for i := range at {
+		at[i] = impl.Point{X: impl.RatOf(r.Intn(201)-100, 1+r.Intn(5)), Y: impl.RatOf(r.Intn(201)-100, 1+r.Intn(5))}
+	}
+	return at
+}
+
+func shuffled(r *rand.Rand, l []impl.Link) []impl.Link {
+	l = slices.Clone(l)
+	r.Shuffle(len(l), func(i, j int) { l[i], l[j] = l[j], l[i] })
+	return l
+}
+
 func totalAt(t *testing.T, l []impl.Link, at []impl.Point) *big.Rat {
 	t.Helper()
 	total := new(big.Rat)
@@ -743,10 +758,7 @@ func totalAt(t *testing.T, l []impl.Link, at []impl.Point) *big.Rat {
 // have the energy of the set plus that of JoinLinks.
 func TestJoinLinksOfRandomLists(t *testing.T) {
 	r := rand.New(rand.NewSource(15))
-	at := make([]impl.Point, 10)
-	for i := range at {
-		at[i] = impl.Point{X: impl.RatOf(r.Intn(201)-100, 1+r.Intn(5)), Y: impl.RatOf(r.Intn(201)-100, 1+r.Intn(5))}
-	}
+	at := randomPoints(r)
 	for n := range 60 {
 		l := randomLinks(r, 2+n%9, 1+n)
 		set, sum, ok := impl.JoinLinks(l)
@@ -768,9 +780,7 @@ func TestJoinLinksOfRandomLists(t *testing.T) {
 		if before, after := totalAt(t, l, at), totalAt(t, set, at); before.Cmp(after.Add(after, quotientOf(sum))) != 0 {
 			t.Errorf("the energy of %v is %v, and %v after JoinLinks", l, before, after)
 		}
-		shuffled := slices.Clone(l)
-		r.Shuffle(len(shuffled), func(i, j int) { shuffled[i], shuffled[j] = shuffled[j], shuffled[i] })
-		again, sumAgain, ok := impl.JoinLinks(shuffled)
+		again, sumAgain, ok := impl.JoinLinks(shuffled(r, l))
 		if !ok || !impl.SameLinks(again, set) || !sameRat(sumAgain, sum) {
 			t.Errorf("JoinLinks(%v) = %v, %v, %v, and in another order %v, %v", l, again, sumAgain, ok, set, sum)
 		}
