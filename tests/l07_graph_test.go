@@ -393,9 +393,10 @@ func TestBridges(t *testing.T) {
 	}
 }
 
-// P18. Each of the five nodes may be linked with each other one.
-func TestGraphOfEverySmallSet(t *testing.T) {
+// everySmallSet returns all link sets of five nodes, each of which may be linked with each other one.
+func everySmallSet() [][]impl.Link {
 	pairs := []string{"0-1", "0-4", "0-8", "0-9", "1-4", "1-8", "1-9", "4-8", "4-9", "8-9"}
+	var sets [][]impl.Link
 	for chosen := range 1 << len(pairs) {
 		var set []impl.Link
 		for i, k := range pairSet(pairs...) {
@@ -403,6 +404,14 @@ func TestGraphOfEverySmallSet(t *testing.T) {
 				set = append(set, k)
 			}
 		}
+		sets = append(sets, set)
+	}
+	return sets
+}
+
+// P18.
+func TestGraphOfEverySmallSet(t *testing.T) {
+	for _, set := range everySmallSet() {
 		checkGraph(t, set, []int{-1, 0, 1, 4, 5, 8, 9, 10})
 	}
 }

@@ -471,16 +471,9 @@ func TestEliminateNodeWithAllNeighbors(t *testing.T) {
 	}
 }
 
-// P4, P18. Each of the five nodes may be linked with each other one.
+// P4, P18.
 func TestEliminateNodeOfEverySmallSet(t *testing.T) {
-	pairs := []string{"0-1", "0-4", "0-8", "0-9", "1-4", "1-8", "1-9", "4-8", "4-9", "8-9"}
-	for chosen := range 1 << len(pairs) {
-		var set []impl.Link
-		for i, k := range pairSet(pairs...) {
-			if chosen>>i&1 == 1 {
-				set = append(set, k)
-			}
-		}
+	for _, set := range everySmallSet() {
 		for _, v := range []int{0, 1, 4, 5, 9, 10} {
 			ok, fine := checkElimination(t, set, v)
 			if want := v > 0 && len(linkedBy(set).of(v)) > 0; ok != want || fine != want {
@@ -574,8 +567,8 @@ func TestEliminateNodeThatIsNotThere(t *testing.T) {
 	checkEliminateFails(t, "no neighbors left", rest, 2)
 }
 
-// P18.
-func TestEliminateNodeRejectsListsThatAreNoLinkSets(t *testing.T) {
+// noLinkSets returns lists that are no link sets.
+func noLinkSets() map[string][]impl.Link {
 	twice := allLinks()
 	lists := map[string][]impl.Link{
 		"the greater A first":         pairSet("1-2", "0-1"),
@@ -591,7 +584,7 @@ func TestEliminateNodeRejectsListsThatAreNoLinkSets(t *testing.T) {
 		lists[fmt.Sprintf("invalid link %d first", i)] = append([]impl.Link{k}, pairSet("0-2", "1-2")...)
 		lists[fmt.Sprintf("invalid link %d last", i)] = append(pairSet("0-1", "0-2"), k)
 	}
-	// The ends of the invalid link are in order, whether they are neighbors of the node or not.
+	// The ends of the invalid link are in order, whether they are neighbors of a node or not.
 	for _, i := range []int{0, 1, 22, 44} {
 		for field := range 3 {
 			for j, r := range invalidRats() {
@@ -601,7 +594,12 @@ func TestEliminateNodeRejectsListsThatAreNoLinkSets(t *testing.T) {
 			}
 		}
 	}
-	for name, l := range lists {
+	return lists
+}
+
+// P18.
+func TestEliminateNodeRejectsListsThatAreNoLinkSets(t *testing.T) {
+	for name, l := range noLinkSets() {
 		for _, v := range []int{math.MinInt, 0, 1, 2, 9, 10} {
 			checkEliminateFails(t, name, l, v)
 		}
