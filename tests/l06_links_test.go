@@ -671,15 +671,15 @@ func TestAddLinkRejects(t *testing.T) {
 }
 
 // permutations returns all orders of l.
-func permutations(l []impl.Link) [][]impl.Link {
+func permutations[T any](l []T) [][]T {
 	if len(l) == 0 {
-		return [][]impl.Link{nil}
+		return [][]T{nil}
 	}
-	var all [][]impl.Link
+	var all [][]T
 	for i := range l {
 		rest := slices.Delete(slices.Clone(l), i, i+1)
 		for _, p := range permutations(rest) {
-			all = append(all, append([]impl.Link{l[i]}, p...))
+			all = append(all, append([]T{l[i]}, p...))
 		}
 	}
 	return all
@@ -735,7 +735,7 @@ func randomPoints(r *rand.Rand) []impl.Point {
 	return at
 }
 
-func shuffled(r *rand.Rand, l []impl.Link) []impl.Link {
+func shuffled[T any](r *rand.Rand, l []T) []T {
 	l = slices.Clone(l)
 	r.Shuffle(len(l), func(i, j int) { l[i], l[j] = l[j], l[i] })
 	return l
