@@ -703,13 +703,18 @@ func solvedBy(t *testing.T, set []impl.Link, order []int) ([]impl.Point, *big.Ra
 	return at, total
 }
 
-// groundedSet returns random links that connect all nodes up to a last one with node 0.
-func groundedSet(r *rand.Rand, nodes int, more int) []impl.Link {
+// groundedLinks returns random links that connect all nodes up to a last one with node 0.
+func groundedLinks(r *rand.Rand, nodes int, more int) []impl.Link {
 	l := randomLinks(r, nodes, more)
 	for b := 1; b < nodes; b++ {
 		l = append(l, link(fmt.Sprintf("%d-%d %d/%d %d %d", r.Intn(b), b, 1+r.Intn(9), 1+r.Intn(3), r.Intn(41)-20, r.Intn(41)-20)))
 	}
-	set, _, _ := impl.JoinLinks(l)
+	return l
+}
+
+// groundedSet returns groundedLinks as a link set.
+func groundedSet(r *rand.Rand, nodes int, more int) []impl.Link {
+	set, _, _ := impl.JoinLinks(groundedLinks(r, nodes, more))
 	return set
 }
 
