@@ -629,6 +629,7 @@ func TestEliminateAllAtTheLimit(t *testing.T) {
 		{"the sum of two energies", triangles("7e107", "8e107"), []int{1, 3, 2, 4}, false},
 		{"the sum of two energies in another order", triangles("7e107", "8e107"), []int{3, 4, 1, 2}, false},
 		{"the sum of an energy and of one that is 0", triangles("0", nines[:108], "0"), []int{1, 3, 5, 2, 4, 6}, true},
+		{"the sum of the energies of one node", allLinks(), []int{1, 2, 3, 4, 5, 6, 7, 8, 9}, false},
 		{"the sum on the way", triangles(first, second, third), []int{1, 3, 5, 2, 4, 6}, true},
 		{"the sum on the way", triangles(first, second, third), []int{3, 1, 5, 2, 4, 6}, true},
 		{"the sum on the way", triangles(first, second, third), []int{1, 5, 3, 2, 4, 6}, false},
@@ -1448,7 +1449,7 @@ func checkBatchMemory(t *testing.T, l []impl.Link, order []int, net []impl.Condi
 func TestBatchMemory(t *testing.T) {
 	sets := [][]impl.Link{
 		nil, pairSet("0-1"), links("0-1 1 1 1"), links("0-9 1 0 0"), links("0-1 1 0 0", "0-2 1 7 0", "1-2 1 4 0"), links("0-2 1 1 0", "1-2 1 4 0"), links("0-1 1 0 0", "0-1 1 1 1", "1-2 1 1 1"),
-		allLinks(), pairSet("1-2"), pairSet("1-2", "0-1"), links("0-1 1 0 0", "1-2 0 0 0"), links("0-1 1e108 0 0", "1-2 1e108 0 0"), triangles("7e107", "8e107"),
+		groundedSet(rand.New(rand.NewSource(76)), 10, 6), allLinks(), pairSet("1-2"), pairSet("1-2", "0-1"), links("0-1 1 0 0", "1-2 0 0 0"), links("0-1 1e108 0 0", "1-2 1e108 0 0"), triangles("7e107", "8e107"),
 	}
 	orders := [][]int{nil, {1}, {2, 1}, {1, 2}, {9}, {9, 1, 8, 2, 7, 3, 6, 4, 5}, {1, 3, 2, 4}, {3, 3, 1}}
 	nets := [][]impl.Conditional{
@@ -1468,16 +1469,16 @@ func TestBatchMemory(t *testing.T) {
 
 // Chapter 1: no state is kept between calls, even if the results of earlier calls are written over.
 func TestBatchStateIsNotKept(t *testing.T) {
-	set, order := allLinks(), []int{9, 1, 8, 2, 7, 3, 6, 4, 5}
+	r := rand.New(rand.NewSource(74))
+	set, order := groundedSet(r, 10, 6), []int{9, 1, 8, 2, 7, 3, 6, 4, 5}
 	net, _, _ := allEliminatedExactly(set, order)
 	for range 3 {
-		checkBatch(t, set, order)
-		checkNet(t, net)
-		checkNet(t, nil)
-		checkEstimate(t, set)
-		checkEstimate(t, nil)
-		checkTotal(t, set, randomPoints(rand.New(rand.NewSource(74))))
-		checkTotal(t, nil, nil)
+		if !checkBatch(t, set, order) || !checkNet(t, net) || !checkEstimate(t, set) || !checkTotal(t, set, randomPoints(r)) {
+			t.Errorf("a function fails for %v", set)
+		}
+		if !checkBatch(t, nil, nil) || !checkNet(t, nil) || !checkEstimate(t, nil) || !checkTotal(t, nil, nil) {
+			t.Error("a function fails for no links")
+		}
 		for _, call := range batchCalls() {
 			if !call.run(set, order, net, nil).spoil() || !call.run(nil, nil, nil, nil).spoil() {
 				t.Errorf("%s: slices of the result share memory", call.name)
