@@ -54,24 +54,23 @@ func equalLinks(a, b []impl.Link) bool { return slices.EqualFunc(a, b, equalLink
 
 func isZeroLink(l impl.Link) bool { return equalLink(l, impl.Link{}) }
 
-// mergedExactly returns what MergeLinks has to return for valid links with the same ends.
+// mergedExactly returns what MergeLinks has to return for valid links with the same ends. The formulas are computed with fractions
+// as the document writes them, so that one that is too large on the way makes the result too large.
 func mergedExactly(k, l impl.Link) (impl.Link, impl.Rat, bool) {
-	v, w := quotientOf(k.Weight), quotientOf(l.Weight)
-	total := new(big.Rat).Add(v, w)
+	v, w := k.Weight, l.Weight
+	total := limited((*big.Rat).Add, v, w)
 	average := func(r, s impl.Rat) impl.Rat {
-		sum := new(big.Rat).Mul(v, quotientOf(r))
-		sum.Add(sum, new(big.Rat).Mul(w, quotientOf(s)))
-		return ratOf(sum.Quo(sum, total))
+		sum := limited((*big.Rat).Add, limited((*big.Rat).Mul, v, r), limited((*big.Rat).Mul, w, s))
+		return limited((*big.Rat).Quo, sum, total)
 	}
-	merged := impl.Link{A: k.A, B: k.B, Weight: ratOf(total), DX: average(k.DX, l.DX), DY: average(k.DY, l.DY)}
-	energy := new(big.Rat).Mul(v, w)
-	energy.Quo(energy, total)
-	energy.Mul(energy, squaredLength(quotientOf(k.DX), quotientOf(l.DX), quotientOf(k.DY), quotientOf(l.DY)))
-	e := ratOf(energy)
-	if isZeroRat(merged.Weight) || isZeroRat(merged.DX) || isZeroRat(merged.DY) || isZeroRat(e) {
+	merged := impl.Link{A: k.A, B: k.B, Weight: total, DX: average(k.DX, l.DX), DY: average(k.DY, l.DY)}
+	x, y := limited((*big.Rat).Sub, k.DX, l.DX), limited((*big.Rat).Sub, k.DY, l.DY)
+	apart := limited((*big.Rat).Add, limited((*big.Rat).Mul, x, x), limited((*big.Rat).Mul, y, y))
+	energy := limited((*big.Rat).Mul, limited((*big.Rat).Quo, limited((*big.Rat).Mul, v, w), total), apart)
+	if isZeroRat(merged.Weight) || isZeroRat(merged.DX) || isZeroRat(merged.DY) || isZeroRat(energy) {
 		return impl.Link{}, impl.Rat{}, false
 	}
-	return merged, e, true
+	return merged, energy, true
 }
 
 func squaredLength(x, otherX, y, otherY *big.Rat) *big.Rat {
